@@ -1,0 +1,222 @@
+"""Slow and simple counterparts of the program, for its tests."""
+
+from itertools import combinations, permutations, product
+
+TAKES = {"s": (1,), "q": (1,), "d": (0, 1), "i": (1,), "o": (0, 1)}
+GIVES = {"s": (1,), "q": (0,), "d": (0, 1), "i": (0, 1), "o": (1,)}
+
+
+def rows_with(count):
+    """All rows with so many wagons, in order."""
+    return [list(row) for row in permutations(range(1, count + 1))]
+
+
+def rows_up_to(count):
+    """All rows with at most so many wagons, in order."""
+    return [row for size in range(count + 1) for row in rows_with(size)]
+
+
+def pattern_of(wagons):
+    """The row with the same order of sizes as different integers."""
+    return [1 + sum(1 for other in wagons if other < wagon) for wagon in wagons]
+
+
+def all_occurrences(row, pattern):
+    """All occurrences of a pattern in a row, in order."""
+    places = combinations(range(len(row)), len(pattern))
+    return [list(some) for some in places if pattern_of([row[place] for place in some]) == pattern]
+
+
+def code(row):
+    """The code of a row, as the document defines it."""
+    return [sum(1 for v in row if v >= w and row.index(v) <= row.index(w)) for w in range(1, len(row) + 1)]
+
+
+def turn_row(row):
+    """The turned row, as the document defines it."""
+    size = len(row)
+    return [size + 1 - (row.index(size + 1 - place) + 1) for place in range(1, size + 1)]
+
+
+def fault_of(text):
+    """The index of the fault in the text of a yard, or None if it has none."""
+    opened = []
+    devices = 0
+    state = "yard"
+    for at, sign in enumerate(text):
+        if state == "yard" and sign in "([" and len(opened) < 8:
+            opened.append([sign, 0])
+        elif state == "yard" and sign in "sqdio" and devices < 8:
+            devices += 1
+            state = "bound"
+        elif state == "bound" and sign in "123456":
+            state = "behind"
+        elif state != "yard" and sign == " " and opened:
+            opened[-1][1] += 1
+            state = "yard"
+        elif state != "yard" and sign in ")]" and opened and opened[-1][1] and opened[-1][0] == {")": "(", "]": "["}[sign]:
+            opened.pop()
+            state = "behind"
+        else:
+            return at
+    return len(text) if opened or state == "yard" else None
+
+
+def possible(kinds, bounds, links, row, situation):
+    """The moves that can be made, found by trying every tuple."""
+    came, held, gone = situation
+    moves = []
+    for source, start, target, end in product(range(-1, len(kinds)), (0, 1), range(-1, len(kinds)), (0, 1)):
+        if (source, target) not in links:
+            continue
+        if source == -1 and (start == 1 or came == len(row)):
+            continue
+        if source >= 0 and (not held[source] or start not in GIVES[kinds[source]]):
+            continue
+        if target == -1 and end == 1:
+            continue
+        if target >= 0 and end not in TAKES[kinds[target]]:
+            continue
+        if target >= 0 and bounds[target] is not None and len(held[target]) >= bounds[target]:
+            continue
+        moves.append((source, start, target, end))
+    return moves
+
+
+def moved(row, situation, move):
+    """The situation after a move that can be made."""
+    came, held, gone = situation
+    source, start, target, end = move
+    tracks = [list(track) for track in held]
+    gone = list(gone)
+    if source == -1:
+        wagon = row[came]
+        came += 1
+    else:
+        wagon = tracks[source].pop(0 if start == 0 else len(tracks[source]) - 1)
+    if target == -1:
+        gone.append(wagon)
+    elif end == 0:
+        tracks[target].insert(0, wagon)
+    else:
+        tracks[target].append(wagon)
+    return came, tuple(tuple(track) for track in tracks), tuple(gone)
+
+
+def is_live(situation):
+    """Whether the wagons that have gone out are 1, 2, .., k."""
+    return list(situation[2]) == list(range(1, len(situation[2]) + 1))
+
+
+def first_way(yard, row):
+    """The first of the ways with the fewest moves, or None: level by level, over whole ways."""
+    level = {(0, ((),) * len(yard.kinds), ()): []}
+    seen = set(level)
+    while level:
+        for situation in level:
+            if len(situation[2]) == len(row):
+                return level[situation]
+        following = {}
+        for situation, way in level.items():
+            for move in possible(yard.kinds, yard.bounds, yard.links, row, situation):
+                there = moved(row, situation, move)
+                if is_live(there) and there not in seen:
+                    following[there] = min(following.get(there, way + [move]), way + [move])
+        seen.update(following)
+        level = following
+    return None
+
+
+def live_situations(yard, row):
+    """All live situations to which moves lead, in ascending order."""
+    waiting = [(0, ((),) * len(yard.kinds), ())]
+    seen = set(waiting)
+    for situation in waiting:
+        for move in possible(yard.kinds, yard.bounds, yard.links, row, situation):
+            there = moved(row, situation, move)
+            if is_live(there) and there not in seen:
+                seen.add(there)
+                waiting.append(there)
+    return sorted(seen)
+
+
+def words_up_to(letters, length):
+    """All words of the letters 1 to `letters`, shorter ones first, in order."""
+    return [list(word) for size in range(length + 1) for word in product(range(1, letters + 1), repeat=size)]
+
+
+def state_behind(machine, word):
+    """The state behind a word, or -1."""
+    letters, accepting, table = machine
+    state = 0 if accepting else -1
+    for letter in word:
+        if state == -1 or letter > letters:
+            return -1
+        state = table[state][letter - 1]
+    return state
+
+
+def accepted(machine, word):
+    """Whether a machine accepts a word."""
+    state = state_behind(machine, word)
+    return state != -1 and machine[1][state]
+
+
+def first_words(machine):
+    """The first word that leads to each state that words lead to, by state, in the order of the words."""
+    words = {0: []} if machine[1] else {}
+    waiting = list(words)
+    for state in waiting:
+        for letter, target in enumerate(machine[2][state], 1):
+            if target != -1 and target not in words:
+                words[target] = words[state] + [letter]
+                waiting.append(target)
+    return words
+
+
+def differing(machine):
+    """All pairs of states that are not alike, the lost state -1 being one of them."""
+    letters, accepting, table = machine
+    states = range(-1, len(accepting))
+
+    def lead(state, letter):
+        return -1 if state == -1 else table[state][letter]
+
+    pairs = {(p, q) for p in states for q in states if (p >= 0 and accepting[p]) != (q >= 0 and accepting[q])}
+    grown = True
+    while grown:
+        grown = False
+        for p, q in product(states, states):
+            if (p, q) not in pairs and any((lead(p, k), lead(q, k)) in pairs for k in range(letters)):
+                pairs.add((p, q))
+                grown = True
+    return pairs
+
+
+def is_least(machine):
+    """Whether all states are useful, no two are alike, and the numbers follow the first words."""
+    words = first_words(machine)
+    if list(words) != list(range(len(machine[1]))):
+        return False
+    pairs = differing(machine)
+    states = range(-1, len(machine[1]))
+    return all((p, q) in pairs for p in states for q in states if p != q)
+
+
+def circle(length, letters=1, accepting=(0,)):
+    """The machine in which every letter leads on, in a circle."""
+    flags = tuple(state in accepting for state in range(length))
+    return (letters, flags, tuple(((state + 1) % length,) * letters for state in range(length)))
+
+
+def chain(length):
+    """The machine of one letter that accepts the one word that leads to its last state."""
+    flags = tuple(state == length - 1 for state in range(length))
+    return (1, flags, tuple((state + 1 if state + 1 < length else -1,) for state in range(length)))
+
+
+def random_machine(source, letters, states):
+    """A machine with so many letters and states."""
+    flags = tuple(source.random() < 0.4 for _ in range(states))
+    table = tuple(tuple(source.randrange(-1, states) for _ in range(letters)) for _ in range(states))
+    return (letters, flags, table)

@@ -1,0 +1,87 @@
+"""The names, the arguments and the files of the interface."""
+
+import importlib
+import inspect
+import unittest
+
+from yardsort import errors
+
+FUNCTIONS = {
+    "rows": {"is_row": "numbers", "row_text": "row", "read_row": "text", "code_of": "row", "row_of": "code",
+             "inverse": "row", "reverse_of": "row", "complement": "row", "direct_sum": "one other",
+             "skew_sum": "one other", "without": "row wagon", "comes_before": "one other", "all_rows": "count"},
+    "patterns": {"pattern_at": "row places", "first_occurrence": "row pattern", "contains": "row pattern",
+                 "occurrences": "row pattern", "patterns_of": "row size", "first_contained": "row patterns"},
+    "yards": {"turned": "text", "turned_numbers": "text"},
+    "moves": {"first_situation": "yard row", "check_situation": "yard row situation",
+              "moves_of": "yard row situation", "made": "yard row situation move"},
+    "replay": {"replay": "yard row moves", "sorts": "yard row moves", "taken": "yard row moves",
+               "without_wagon": "yard row moves wagon", "turned_moves": "yard moves", "turned_row": "row"},
+    "search": {"is_live": "situation", "solve": "yard row", "fewest": "yard row", "can_sort": "yard row",
+               "sorted_rows": "yard size"},
+    "closed": {"closed_list": "yard row", "is_closed": "yard row situations", "first_gap": "yard row situations"},
+    "machines": {"is_machine": "machine", "check_machine": "machine", "accepts": "machine word", "least": "machine",
+                 "same_words": "one other"},
+    "products": {"complement": "machine", "union": "one other", "intersection": "one other",
+                 "difference": "one other", "widen": "machine letters", "includes": "one other"},
+}
+
+CLASSES = {
+    "yards": {"Yard": {"__init__": "self text", "__len__": "self", "ins": "self device", "outs": "self device",
+                       "is_bounded": "self", "room": "self device count"}},
+    "machines": {"Walker": {"__init__": "self machine", "read": "self letter"}},
+}
+
+ERRORS = ("YardsortError", "NotRow", "NotCode", "NotPattern", "BadNumber", "TooLarge", "Unbounded", "NotSituation",
+          "NotKnown", "NotMachine", "NotWord", "NoRow", "NoWord", "OtherLetters", "NotPolynomial", "NotFraction",
+          "NotTree", "OpenTrial", "NotYard", "BadMove", "Malformed", "BadJournal")
+
+
+def names_of(function):
+    return " ".join(inspect.signature(function).parameters)
+
+
+class InterfaceTest(unittest.TestCase):
+    def test_functions(self):
+        for file, functions in FUNCTIONS.items():
+            module = importlib.import_module(f"yardsort.{file}")
+            for name, arguments in functions.items():
+                function = getattr(module, name)
+                self.assertTrue(inspect.isfunction(function), name)
+                self.assertEqual(function.__module__, module.__name__, name)
+                self.assertEqual(names_of(function), arguments, name)
+
+    def test_classes(self):
+        for file, classes in CLASSES.items():
+            module = importlib.import_module(f"yardsort.{file}")
+            for name, methods in classes.items():
+                found = getattr(module, name)
+                self.assertEqual(found.__module__, module.__name__, name)
+                for method, arguments in methods.items():
+                    self.assertEqual(names_of(found.__dict__[method]), arguments, method)
+
+    def test_errors(self):
+        for name in ERRORS:
+            self.assertEqual(getattr(errors, name).__module__, "yardsort.errors")
+
+    def test_attributes_are_set_at_the_beginning(self):
+        yards = importlib.import_module("yardsort.yards")
+        machines = importlib.import_module("yardsort.machines")
+        self.assertLessEqual({"text", "kinds", "bounds", "links"}, set(vars(yards.Yard("(s2 q)"))))
+        self.assertIn("state", vars(machines.Walker((1, (), ()))))
+
+    def test_kinds_of_values(self):
+        yard = importlib.import_module("yardsort.yards").Yard("(s2 q)")
+        self.assertTrue(all(isinstance(field, list) for field in (yard.kinds, yard.bounds, yard.links)))
+        self.assertTrue(all(isinstance(link, tuple) for link in yard.links))
+        moves = importlib.import_module("yardsort.moves")
+        situation = moves.first_situation(yard, [1])
+        self.assertTrue(all(isinstance(move, tuple) for move in moves.moves_of(yard, [1], situation)))
+        there = moves.made(yard, [1], situation, (-1, 0, 0, 1))
+        self.assertTrue(all(isinstance(part, tuple) for part in (there, there[1], there[1][0], there[2])))
+        found = importlib.import_module("yardsort.machines").least((1, (True, True), ((1,), (0,))))
+        self.assertTrue(all(isinstance(part, tuple) for part in (found, found[1], found[2], found[2][0])))
+
+
+if __name__ == "__main__":
+    unittest.main()

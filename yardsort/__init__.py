@@ -1,0 +1,1 @@
+"""Yardsort: what a yard can sort."""
