@@ -220,3 +220,87 @@ def random_machine(source, letters, states):
     flags = tuple(source.random() < 0.4 for _ in range(states))
     table = tuple(tuple(source.randrange(-1, states) for _ in range(letters)) for _ in range(states))
     return (letters, flags, table)
+
+
+def words_with(machine, length):
+    """All accepted words with this length, in order."""
+    words = product(range(1, machine[0] + 1), repeat=length)
+    return [list(word) for word in words if accepted(machine, list(word))]
+
+
+def accepts_words_for_ever(machine):
+    """Whether a machine accepts infinitely many words: then some, not longer than twice its states, goes round."""
+    letters, accepting, table = machine
+    states = range(len(accepting))
+    here = {0} if accepting else set()
+    for length in range(2 * len(accepting)):
+        if length >= len(accepting) and any(accepting[state] for state in here):
+            return True
+        here = {table[state][k] for state in here for k in range(letters)} - {-1}
+    return False
+
+
+def removed(row, wagon):
+    """The row without a wagon."""
+    return pattern_of([other for other in row if other != wagon])
+
+
+def one_too_many(machine, row):
+    """Whether a machine accepts the codes of all rows without one wagon."""
+    return all(accepted(machine, code(removed(row, wagon))) for wagon in row)
+
+
+def shape_moves(yard, shape):
+    """The letter, or None, and the new shape of each move from a shape."""
+    many = sum(len(track) for track in shape)
+    found = []
+    for move in possible(yard.kinds, yard.bounds, yard.links, [many + 1], (0, shape, ())):
+        _, held, gone = moved([many + 1], (0, shape, ()), move)
+        letter = gone[0] if gone else None
+        if gone:
+            held = tuple(tuple(rank - (rank > letter) for rank in track) for track in held)
+        found.append((letter, held))
+    return found
+
+
+def closed(yard, shapes):
+    """The closed set of some shapes."""
+    found = set(shapes)
+    waiting = list(found)
+    while waiting:
+        for letter, there in shape_moves(yard, waiting.pop()):
+            if letter is None and there not in found:
+                found.add(there)
+                waiting.append(there)
+    return found
+
+
+def set_of_word(yard, word):
+    """The set of a word, by its definition."""
+    shapes = closed(yard, [((),) * len(yard.kinds)])
+    for wanted in word:
+        spoken = [there for shape in shapes for letter, there in shape_moves(yard, shape) if letter == wanted]
+        shapes = closed(yard, spoken)
+    return shapes
+
+
+def sorted_by_moves(yard, row):
+    """Whether some moves sort the row, found without any words."""
+    return first_way(yard, row) is not None
+
+
+def pairs_of_states(first, second):
+    """The pairs of states behind the words that go on in one of the machines, each with its first word, in order.
+
+    A state of a machine that does not go on is -1.
+    """
+    pairs = {(0, 0): []}
+    waiting = [(0, 0)]
+    for pair in waiting:
+        for letter in range(1, max(first[0], second[0]) + 1):
+            there = tuple(machine[2][state][letter - 1] if state != -1 and letter <= machine[0] else -1
+                          for machine, state in ((first, pair[0]), (second, pair[1])))
+            if there not in pairs:
+                pairs[there] = pairs[pair] + [letter]
+                waiting.append(there)
+    return pairs

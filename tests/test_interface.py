@@ -24,12 +24,21 @@ FUNCTIONS = {
                  "same_words": "one other"},
     "products": {"complement": "machine", "union": "one other", "intersection": "one other",
                  "difference": "one other", "widen": "machine letters", "includes": "one other"},
+    "wordlists": {"shortest": "machine", "words_of_length": "machine length", "is_finite": "machine", "pump": "machine",
+                  "machine_text": "machine", "read_machine": "text"},
+    "shapes": {"capacity": "yard", "empty_shape": "yard", "silent": "yard shape", "spoken": "yard shape letter",
+               "closed_set": "yard shapes"},
+    "language": {"machine_of": "text", "sorts_by_code": "text row"},
+    "compare": {"compare": "one other", "difference": "one other", "pairing": "one other",
+                "is_pairing": "one other pairs", "classes_of": "yards"},
+    "deleted": {"lost": "machine", "is_one_too_many": "machine row"},
 }
 
 CLASSES = {
     "yards": {"Yard": {"__init__": "self text", "__len__": "self", "ins": "self device", "outs": "self device",
                        "is_bounded": "self", "room": "self device count"}},
     "machines": {"Walker": {"__init__": "self machine", "read": "self letter"}},
+    "language": {"Language": {"__init__": "self text", "machine": "self", "takes": "self word", "set_of": "self word"}},
 }
 
 ERRORS = ("YardsortError", "NotRow", "NotCode", "NotPattern", "BadNumber", "TooLarge", "Unbounded", "NotSituation",
@@ -69,6 +78,8 @@ class InterfaceTest(unittest.TestCase):
         machines = importlib.import_module("yardsort.machines")
         self.assertLessEqual({"text", "kinds", "bounds", "links"}, set(vars(yards.Yard("(s2 q)"))))
         self.assertIn("state", vars(machines.Walker((1, (), ()))))
+        language = importlib.import_module("yardsort.language")
+        self.assertLessEqual({"yard", "letters"}, set(vars(language.Language("s2"))))
 
     def test_kinds_of_values(self):
         yard = importlib.import_module("yardsort.yards").Yard("(s2 q)")

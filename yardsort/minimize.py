@@ -1,8 +1,9 @@
-"""The least machine of any table of states, of whatever size."""
+"""Tables of states, of whatever size: how they are walked, and their least machines."""
 
 from yardsort.errors import TooLarge
 
 DEAD = -1
+START = 0
 
 
 def _reached(links, starts):
@@ -120,6 +121,30 @@ def _numbered(letters, accepting, table, class_of):
             row.append(numbers[class_of[target]])
         rows.append(tuple(row))
     return (letters, tuple([accepting[state] for state in members]), tuple(rows))
+
+
+def walked(first, letters, onward, most):
+    """Return the list of all that is met from `first` on, and its table.
+
+    `onward` returns what a letter leads to, or None; what it returns is a
+    key of a dict. Raises TooLarge if more than `most` would be met.
+    """
+    met = [first]
+    numbers = {first: START, None: DEAD}
+    table = []
+    while len(table) < len(met):
+        here = met[len(table)]
+        targets = []
+        for letter in range(1, letters + 1):
+            there = onward(here, letter)
+            if there not in numbers:
+                if len(met) == most:
+                    raise TooLarge("there is too much to walk through")
+                numbers[there] = len(met)
+                met.append(there)
+            targets.append(numbers[there])
+        table.append(tuple(targets))
+    return (met, table)
 
 
 def minimized(letters, accepting, table, most):

@@ -1,0 +1,74 @@
+"""Rows that are one too many, and the machine of their codes."""
+
+from yardsort.errors import TooLarge
+from yardsort.machines import MOST_STATES, accepts, check_machine
+from yardsort.minimize import DEAD, START, minimized, walked
+from yardsort.products import widen
+from yardsort.rows import check_row, code_of, without
+
+MOST_LETTERS = 4
+MOST_IN_MACHINE = 40
+MOST_WALKED = 200000
+
+
+def _first_reading(letters, states):
+    """Return what is known before a code is read.
+
+    Such a reading is a tuple (`due`, `whole`, `ahead`, `behind`). `due` is
+    the least number of letters that must follow, so that the word is a code.
+    `whole` is the state behind the word. The other states are those behind
+    the code of the row without one wagon: `ahead` has one for each of the
+    first places that the wagons yet to be read have in the row, as a wagon
+    further behind is not told apart from the word by a letter; `behind` has
+    those for the wagons that were read, in ascending order.
+    """
+    start = START if states > 0 else DEAD
+    return (0, start, (start,) * letters, ())
+
+
+def _read_on(table, reading, letter):
+    """Return the reading behind one more letter, or None if no code with it is wanted.
+
+    The letter tells at which place, of those left, the next wagon stands. In
+    the code without a wagon before it the entry stays, without one behind it
+    the entry is less by 1, and its own removal removes the entry.
+    """
+    due, whole, ahead, behind = reading
+    place = letter - 1
+    still_due = max(due - 1, place)
+    onward = table[whole][place]
+    nearer = [table[state][place - 1] for state in ahead[:place]]
+    farther = [table[state][place] for state in ahead[letter:]]
+    left = tuple(nearer + farther + [onward])
+    removed = [table[state][place] for state in behind] + [ahead[place]]
+    # As many wagons as are due will be removed in their turn.
+    if DEAD in removed or DEAD in left[:still_due]:
+        return None
+    return (still_due, onward, left, tuple(sorted(set(removed))))
+
+
+def _is_end(accepting, reading):
+    """Return whether a word is the code of a row that is one too many."""
+    due, _, _, behind = reading
+    return due == 0 and all([accepting[state] for state in behind])
+
+
+def lost(machine):
+    """Return the least machine of the codes of the rows that are one too many."""
+    check_machine(machine)
+    if machine[0] > MOST_LETTERS or len(machine[1]) > MOST_IN_MACHINE:
+        raise TooLarge("the machine is too large")
+    letters, accepting, rows = widen(machine, machine[0] + 1)
+    # The index DEAD finds a last row in which no letter leads on.
+    table = rows + ((DEAD,) * letters,)
+    first = _first_reading(letters, len(accepting))
+    readings, walks = walked(first, letters, lambda reading, letter: _read_on(table, reading, letter), MOST_WALKED)
+    flags = [_is_end(accepting, reading) for reading in readings]
+    return minimized(letters, flags, walks, MOST_STATES)
+
+
+def is_one_too_many(machine, row):
+    """Return whether a machine accepts the code of the row without any one wagon."""
+    check_machine(machine)
+    check_row(row)
+    return all([accepts(machine, code_of(without(row, wagon))) for wagon in row])
