@@ -1,6 +1,8 @@
 """Slow and simple counterparts of the program, for its tests."""
 
+from fractions import Fraction
 from itertools import combinations, permutations, product
+from math import gcd, lcm
 
 TAKES = {"s": (1,), "q": (1,), "d": (0, 1), "i": (1,), "o": (0, 1)}
 GIVES = {"s": (1,), "q": (0,), "d": (0, 1), "i": (0, 1), "o": (1,)}
@@ -304,3 +306,112 @@ def pairs_of_states(first, second):
                 pairs[there] = pairs[pair] + [letter]
                 waiting.append(there)
     return pairs
+
+
+def rows_of_basis(yard, count):
+    """All rows of the basis of a yard with so many wagons, in order, found by moves."""
+    rows = [row for row in rows_with(count) if not sorted_by_moves(yard, row)]
+    return [row for row in rows if all(sorted_by_moves(yard, removed(row, wagon)) for wagon in row)]
+
+
+def counted(machine, length):
+    """How many words of each length up to a greatest one a machine accepts: by a matrix of states and letters."""
+    letters, accepting, table = machine
+    here = [1] + [0] * (len(accepting) - 1) if accepting else []
+    found = []
+    for _ in range(length + 1):
+        found.append(sum(many for many, flag in zip(here, accepting) if flag))
+        following = [0] * len(accepting)
+        for many, row in zip(here, table):
+            for target in row:
+                if target != -1:
+                    following[target] += many
+        here = following
+    return found
+
+
+def product_of(one, other):
+    """The product of two lists of coefficients, without zeros at the end."""
+    total = [sum(one[k] * other[at - k] for k in range(len(one)) if 0 <= at - k < len(other))
+             for at in range(len(one) + len(other))]
+    return shortened(total)
+
+
+def shortened(numbers):
+    """A list without the zeros at its end."""
+    numbers = list(numbers)
+    while numbers and numbers[-1] == 0:
+        numbers.pop()
+    return numbers
+
+
+def common_divisor(one, other):
+    """The greatest common divisor of two polynomials, by Euclid over the fractions."""
+    content = gcd(*one, *other)
+    left, right = [Fraction(number) for number in one], [Fraction(number) for number in other]
+    while right:
+        rest = left
+        while len(rest) >= len(right):
+            factor, shift = rest[-1] / right[-1], len(rest) - len(right)
+            rest = shortened([number - (factor * right[at - shift] if at >= shift else 0)
+                              for at, number in enumerate(rest)][:-1])
+        left, right = right, rest
+    if not left:
+        return []
+    whole = [number * lcm(*[number.denominator for number in left]) for number in left]
+    part = gcd(*[int(number) for number in whole])
+    sign = 1 if whole[-1] > 0 else -1
+    return [sign * content * int(number) // part for number in whole]
+
+
+def determinant(rows):
+    """The determinant of a matrix, along its first row."""
+    if not rows:
+        return 1
+    return sum((-1) ** at * entry * determinant([row[:at] + row[at + 1:] for row in rows[1:]])
+               for at, entry in enumerate(rows[0]) if entry != 0)
+
+
+def exceeds_growth(machine, x):
+    """Whether a rational number above 0 is greater than the growth of a least machine."""
+    size = len(machine[1])
+    rows = [[(x if p == q else 0) - machine[2][p].count(q) for q in range(size)] for p in range(size)]
+    return all(determinant([row[:order] for row in rows[:order]]) > 0 for order in range(1, size + 1))
+
+
+def circles(machine):
+    """All circles of a machine, each a list of pairs of a state and a letter, begun at its least state."""
+    found = []
+
+    def walk(first, way, state):
+        for letter, target in enumerate(machine[2][state], 1):
+            if target == first:
+                found.append(way + [(state, letter)])
+            elif target > first and target not in [step[0] for step in way] + [state]:
+                walk(first, way + [(state, letter)], target)
+
+    for first in range(len(machine[1])):
+        walk(first, [], first)
+    return found
+
+
+def kind_of(machine):
+    """The kind of a least machine, by its circles."""
+    found = circles(machine)
+    if not found:
+        return ("finite", 0)
+    states = [[state for state, _ in circle] for circle in found]
+    if len(sum(states, [])) > len(set(sum(states, []))):
+        return ("fast", 0)
+
+    def behind(state):
+        met = [state]
+        for here in met:
+            met.extend({target for target in machine[2][here] if target != -1 and target not in met})
+        return met
+
+    def longest(at):
+        others = [k for k in range(len(states)) if k != at and states[k][0] in behind(states[at][0])]
+        return 1 + max([longest(k) for k in others], default=0)
+
+    return ("slow", max(longest(at) for at in range(len(states))) - 1)

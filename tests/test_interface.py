@@ -32,6 +32,16 @@ FUNCTIONS = {
     "compare": {"compare": "one other", "difference": "one other", "pairing": "one other",
                 "is_pairing": "one other pairs", "classes_of": "yards"},
     "deleted": {"lost": "machine", "is_one_too_many": "machine row"},
+    "basis": {"basis_machine": "yard", "in_basis": "yard row", "basis_rows": "yard count", "whole_basis": "yard",
+              "family": "yard", "core": "yard row"},
+    "polynomials": {"is_polynomial": "numbers", "add": "one other", "multiply": "one other",
+                    "greatest_common": "one other", "divided": "one other"},
+    "series": {"counts": "machine n", "total": "machine", "series": "machine", "expand": "fraction n",
+               "is_reduced": "fraction"},
+    "growth": {"growth": "machine places", "kind": "machine"},
+    "rank": {"count_words": "machine length", "number_of_word": "machine word", "word_with_number": "machine length number",
+             "word_behind": "machine word", "count_rows": "yard count", "place_of_row": "yard row",
+             "row_with_number": "yard count number", "row_behind": "yard row"},
 }
 
 CLASSES = {
