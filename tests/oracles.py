@@ -110,9 +110,9 @@ def is_live(situation):
     return list(situation[2]) == list(range(1, len(situation[2]) + 1))
 
 
-def first_way(yard, row):
+def first_way(yard, row, start=None):
     """The first of the ways with the fewest moves, or None: level by level, over whole ways."""
-    level = {(0, ((),) * len(yard.kinds), ()): []}
+    level = {start or (0, ((),) * len(yard.kinds), ()): []}
     seen = set(level)
     while level:
         for situation in level:
@@ -129,9 +129,9 @@ def first_way(yard, row):
     return None
 
 
-def live_situations(yard, row):
+def live_situations(yard, row, start=None):
     """All live situations to which moves lead, in ascending order."""
-    waiting = [(0, ((),) * len(yard.kinds), ())]
+    waiting = [start or (0, ((),) * len(yard.kinds), ())]
     seen = set(waiting)
     for situation in waiting:
         for move in possible(yard.kinds, yard.bounds, yard.links, row, situation):
@@ -415,3 +415,61 @@ def kind_of(machine):
         return 1 + max([longest(k) for k in others], default=0)
 
     return ("slow", max(longest(at) for at in range(len(states))) - 1)
+
+
+def sortable_row(yard, count, source):
+    """A row of so many wagons that a yard sorts: wagons are moved at random, and numbered as they go out."""
+    places = list(range(count))
+    came, held, gone = 0, ((),) * len(yard.kinds), ()
+    while len(gone) < count:
+        moves = possible(yard.kinds, yard.bounds, yard.links, places, (came, held, gone))
+        came, held, gone = moved(places, (came, held, gone), source.choice(moves))
+    return [gone.index(place) + 1 for place in places]
+
+
+def is_sum(row):
+    """Whether a row is a direct sum of two rows that are not empty."""
+    return any(max(row[:cut]) < min(row[cut:]) for cut in range(1, len(row)))
+
+
+def is_skew(row):
+    """Whether a row is a skew sum of two rows that are not empty."""
+    return any(min(row[:cut]) > max(row[cut:]) for cut in range(1, len(row)))
+
+
+def all_blocks(row):
+    """All blocks of a row, the trivial ones among them, in ascending order."""
+    pairs = [(first, last) for first in range(len(row)) for last in range(first, len(row))]
+    return [pair for pair in pairs if pattern_of(row[pair[0]:pair[1] + 1]) ==
+            [1 + wagon - min(row[pair[0]:pair[1] + 1]) for wagon in row[pair[0]:pair[1] + 1]]]
+
+
+def is_simple_row(row):
+    """Whether a row is simple: no sum, and no block but those of one place and of all."""
+    return len(row) >= 4 and all(last in (first, first + len(row) - 1) for first, last in all_blocks(row))
+
+
+def inflated(pattern, parts):
+    """The inflation of a pattern: the wagons in the order of their pairs of numbers."""
+    pairs = [(wagon, number) for wagon, part in zip(pattern, parts) for number in part]
+    return [1 + sorted(pairs).index(pair) for pair in pairs]
+
+
+def decompositions(row):
+    """All tuples that the document calls decompositions of a row."""
+    found = [("one", [1], [[1]])] if row == [1] else []
+    for many in range(2, len(row) + 1):
+        for cuts in combinations(range(1, len(row)), many - 1):
+            starts = [0, *cuts]
+            parts = [pattern_of(row[one:other]) for one, other in zip(starts, [*cuts, len(row)])]
+            # No other pattern can have this inflation.
+            pattern = pattern_of([row[start] for start in starts])
+            if inflated(pattern, parts) != row:
+                continue
+            if pattern == sorted(pattern) and not any(is_sum(part) for part in parts):
+                found.append(("sum", pattern, parts))
+            if pattern == sorted(pattern)[::-1] and not any(is_skew(part) for part in parts):
+                found.append(("skew", pattern, parts))
+            if is_simple_row(pattern) and not is_sum(row) and not is_skew(row):
+                found.append(("simple", pattern, parts))
+    return found

@@ -6,13 +6,16 @@ from oracles import all_occurrences, pattern_of, rows_up_to, rows_with
 from yardsort.basis import basis_machine, basis_rows, core, in_basis, whole_basis
 from yardsort.closed import closed_list, is_closed
 from yardsort.compare import compare, difference, is_pairing, pairing
+from yardsort.known import is_known, known_count, least_rows
 from yardsort.language import Language, machine_of, sorts_by_code
 from yardsort.machines import accepts
 from yardsort.patterns import contains
-from yardsort.rank import count_rows, place_of_row, row_with_number
+from yardsort.rank import count_rows, count_words, place_of_row, row_with_number
 from yardsort.replay import sorts, turned_row
 from yardsort.rows import code_of, without
+from yardsort.rules import Shown, sort_by_rule
 from yardsort.search import can_sort, fewest, solve, sorted_rows
+from yardsort.series import counts, expand, series
 from yardsort.yards import Yard, turned
 
 YARDS = ("s1", "q2", "s2", "d2", "(s1 q1)", "[s1 q1]", "s3", "q3", "d3", "i3", "o3", "(s2 q1)", "[q2 q1]", "(s1 [q1 d1])",
@@ -95,6 +98,30 @@ class AgreementTest(unittest.TestCase):
                 self.assertEqual(count_rows(text, size), len(rows))
                 self.assertEqual(sorted([row_with_number(text, size, number) for number in range(len(rows))]), rows)
                 self.assertEqual(sorted([place_of_row(text, row) for row in rows]), list(range(len(rows))))
+
+    def test_how_many_rows(self):
+        for text in YARDS + LARGE + ("q4", "(s1 s1)"):
+            machine = machine_of(text)
+            numbers = expand(series(machine), 30)
+            self.assertEqual(numbers, counts(machine, 30))
+            self.assertEqual(numbers, [count_words(machine, size) for size in range(31)])
+            self.assertEqual(numbers, [count_rows(text, size) for size in range(31)])
+            self.assertEqual(numbers[:5], [len(sorted_rows(Yard(text), size)) for size in range(5)])
+            if is_known(text):
+                self.assertEqual(numbers, [known_count(text, size) for size in range(31)])
+
+    def test_the_catalogue(self):
+        known = [text for text in YARDS + LARGE if is_known(text)]
+        self.assertEqual(known, ["s1", "q2", "s2", "s3", "q3", "s4"])
+        for text in known:
+            for row in rows_up_to(4):
+                answer = sort_by_rule(text, row)
+                found = can_sort(Yard(text), row)
+                self.assertEqual(isinstance(answer, Shown), not found)
+                self.assertEqual(any(contains(row, least) for least in least_rows(text) if len(least) < 7), not found)
+        for text in ("s1", "q2", "s2", "s3", "q3"):
+            rows = sorted(least_rows(text), key=lambda row: (len(row), row))
+            self.assertEqual(rows, whole_basis(text))
 
 
 if __name__ == "__main__":

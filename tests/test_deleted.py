@@ -29,6 +29,26 @@ def machines(count, seed):
     return found
 
 
+def padded(base, source):
+    """A machine of 40 states that accepts the same codes as a machine of at most 2 states.
+
+    Each state is one of the base in one of several forms. The letter 1 leads
+    to the forms below the half, which accept as the base does; at the others
+    no code ends, so it does not matter whether they accept.
+    """
+    letters, accepting, rows = base
+    size = len(accepting)
+    forms = 40 // size
+    flags, table = [], []
+    for state in range(40):
+        plain = state % size
+        low, high = source.randrange(forms // 2), [source.randrange(forms) for _ in range(letters)]
+        flags.append(accepting[plain] if state < 20 else source.random() < 0.5)
+        table.append(tuple(-1 if target == -1 else target + size * (low if letter == 0 else high[letter])
+                           for letter, target in enumerate(rows[plain])))
+    return (letters, tuple(flags), tuple(table))
+
+
 class LostTest(unittest.TestCase):
     def check(self, machine, longest):
         found = lost(machine)
@@ -101,11 +121,32 @@ class LostTest(unittest.TestCase):
         with self.assertRaises(TooLarge):
             lost((1, (True,) * 41, ((0,),) * 41))
 
-    def test_results_that_would_be_no_machines(self):
-        source = random.Random(5)
-        table = tuple(tuple(source.randrange(40) for _ in range(4)) for _ in range(40))
-        with self.assertRaises(TooLarge):
-            lost((4, tuple(state % 3 > 0 for state in range(40)), table))
+    def test_the_machine_with_many_readings(self):
+        table = tuple(((7 * s + 3) % 20, (11 * s * s + s + 1) % 40, (13 * s + 29) % 40) for s in range(40))
+        found = lost((3, tuple(s < 20 for s in range(40)), table))
+        self.assertEqual(found, (4, (True, True, False, False, False, False, False, True),
+                                 ((1, 2, 3, 4), (1, 2, 3, -1), (1, 2, 3, -1), (2, 2, 3, -1), (5, 5, 5, -1), (6, 6, -1, -1),
+                                  (7, -1, -1, -1), (-1, -1, -1, -1))))
+        self.assertEqual(found, lost(EVERY_WORD))
+
+    def test_machines_of_40_states_that_differ_in_words_that_are_no_codes(self):
+        source = random.Random(6)
+        for letters in (2, 3, 4):
+            for base in ((letters, (True,), ((0,) * letters,)), (letters, (True, False), ((0, 1) + (1,) * (letters - 2),) * 2),
+                         circle(2, letters, (0,)), random_machine(source, letters, 2)):
+                machine = padded(base, source)
+                self.assertEqual(len(machine[1]), 40)
+                self.assertEqual(lost(machine), lost(base), base)
+
+    def test_many_states_in_the_result(self):
+        source = random.Random(7)
+        table = tuple(tuple(source.randrange(9) for _ in range(4)) for _ in range(9))
+        machine = (4, tuple(state % 3 > 0 for state in range(9)), table)
+        found = lost(machine)
+        self.assertEqual(found, least(found))
+        self.assertGreater(len(found[1]), 1000)
+        for row in rows_up_to(6):
+            self.assertEqual(accepted(found, code(row)), one_too_many(machine, row))
 
     def test_no_machine_comes_first(self):
         for machine in NOT_MACHINES:

@@ -42,6 +42,11 @@ FUNCTIONS = {
     "rank": {"count_words": "machine length", "number_of_word": "machine word", "word_with_number": "machine length number",
              "word_behind": "machine word", "count_rows": "yard count", "place_of_row": "yard row",
              "row_with_number": "yard count number", "row_behind": "yard row"},
+    "known": {"is_known": "text", "least_rows": "text", "known_count": "text wagons"},
+    "rules": {"sort_by_rule": "text row"},
+    "simple": {"blocks": "row", "is_simple": "row", "decomposition": "row", "inflation": "pattern parts",
+               "simple_rows": "count"},
+    "trees": {"tree_of": "row", "row_of_tree": "text"},
 }
 
 CLASSES = {
@@ -49,6 +54,10 @@ CLASSES = {
                        "is_bounded": "self", "room": "self device count"}},
     "machines": {"Walker": {"__init__": "self machine", "read": "self letter"}},
     "language": {"Language": {"__init__": "self text", "machine": "self", "takes": "self word", "set_of": "self word"}},
+    "rules": {"Shown": {}},
+    "plan": {"Shift": {"__init__": "self text row", "__len__": "self", "__iter__": "self", "move": "self move",
+                       "breaks": "self wagon", "is_late": "self wagon", "row": "self", "situation": "self", "plan": "self",
+                       "stuck": "self"}},
 }
 
 ERRORS = ("YardsortError", "NotRow", "NotCode", "NotPattern", "BadNumber", "TooLarge", "Unbounded", "NotSituation",
@@ -90,6 +99,9 @@ class InterfaceTest(unittest.TestCase):
         self.assertIn("state", vars(machines.Walker((1, (), ()))))
         language = importlib.import_module("yardsort.language")
         self.assertLessEqual({"yard", "letters"}, set(vars(language.Language("s2"))))
+        plan = importlib.import_module("yardsort.plan")
+        self.assertIn("yard", vars(plan.Shift("s", [2, 1])))
+        self.assertIsInstance(plan.Shift.__dict__["done"], property)
 
     def test_kinds_of_values(self):
         yard = importlib.import_module("yardsort.yards").Yard("(s2 q)")

@@ -1,14 +1,23 @@
 """Rows that are one too many, and the machine of their codes."""
 
 from yardsort.errors import TooLarge
-from yardsort.machines import MOST_STATES, accepts, check_machine
+from yardsort.machines import accepts, check_machine
 from yardsort.minimize import DEAD, START, minimized, walked
-from yardsort.products import widen
+from yardsort.products import intersection, widen
 from yardsort.rows import check_row, code_of, without
 
 MOST_LETTERS = 4
 MOST_IN_MACHINE = 40
-MOST_WALKED = 200000
+
+
+def _codes(letters):
+    """Return the machine of all codes of these letters.
+
+    Its states tell how many letters must follow at least, so that the word
+    is a code.
+    """
+    table = [tuple([max(due - 1, place) for place in range(letters)]) for due in range(letters)]
+    return (letters, tuple([due == 0 for due in range(letters)]), tuple(table))
 
 
 def _first_reading(letters, states):
@@ -58,13 +67,16 @@ def lost(machine):
     check_machine(machine)
     if machine[0] > MOST_LETTERS or len(machine[1]) > MOST_IN_MACHINE:
         raise TooLarge("the machine is too large")
-    letters, accepting, rows = widen(machine, machine[0] + 1)
+    # Machines that accept the same codes have the same result. Without their
+    # other words they are the same machine, which may have far fewer readings.
+    codes = intersection(machine, _codes(machine[0]))
+    letters, accepting, rows = widen(codes, machine[0] + 1)
     # The index DEAD finds a last row in which no letter leads on.
     table = rows + ((DEAD,) * letters,)
     first = _first_reading(letters, len(accepting))
-    readings, walks = walked(first, letters, lambda reading, letter: _read_on(table, reading, letter), MOST_WALKED)
+    readings, walks = walked(first, letters, lambda reading, letter: _read_on(table, reading, letter))
     flags = [_is_end(accepting, reading) for reading in readings]
-    return minimized(letters, flags, walks, MOST_STATES)
+    return minimized(letters, flags, walks, len(readings))
 
 
 def is_one_too_many(machine, row):

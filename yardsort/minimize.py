@@ -123,11 +123,12 @@ def _numbered(letters, accepting, table, class_of):
     return (letters, tuple([accepting[state] for state in members]), tuple(rows))
 
 
-def walked(first, letters, onward, most):
+def walked(first, letters, onward, most=None):
     """Return the list of all that is met from `first` on, and its table.
 
     `onward` returns what a letter leads to, or None; what it returns is a
-    key of a dict. Raises TooLarge if more than `most` would be met.
+    key of a dict. Raises TooLarge if more than `most` would be met, where
+    `most` is given.
     """
     met = [first]
     numbers = {first: START, None: DEAD}
