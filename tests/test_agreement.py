@@ -4,12 +4,15 @@ import unittest
 
 from oracles import all_occurrences, pattern_of, rows_up_to, rows_with
 from yardsort.basis import basis_machine, basis_rows, core, in_basis, whole_basis
+from yardsort.certificates import is_closed_list, is_least_row, is_occurrence, is_relation, is_way
 from yardsort.closed import closed_list, is_closed
 from yardsort.compare import compare, difference, is_pairing, pairing
 from yardsort.known import is_known, known_count, least_rows
 from yardsort.language import Language, machine_of, sorts_by_code
 from yardsort.machines import accepts
-from yardsort.patterns import contains
+from yardsort.mend import is_plan, is_stuck, mended
+from yardsort.patterns import contains, first_occurrence
+from yardsort.plan import Shift
 from yardsort.rank import count_rows, count_words, place_of_row, row_with_number
 from yardsort.replay import sorts, turned_row
 from yardsort.rows import code_of, without
@@ -21,6 +24,7 @@ from yardsort.yards import Yard, turned
 YARDS = ("s1", "q2", "s2", "d2", "(s1 q1)", "[s1 q1]", "s3", "q3", "d3", "i3", "o3", "(s2 q1)", "[q2 q1]", "(s1 [q1 d1])",
          "[d1 (s1 s1)]", "([s1 s1] s1)")
 LARGE = ("s4", "d4", "i4", "o4", "[s2 s2]", "[s2 q2]", "[s1 s1 q2]", "[s1 (s2 s1)]", "(i2 o2)")
+UNBOUNDED = ("s", "q", "d", "i", "o", "(s q)", "[q q]", "(i2 [s q1])")
 
 
 class AgreementTest(unittest.TestCase):
@@ -122,6 +126,89 @@ class AgreementTest(unittest.TestCase):
         for text in ("s1", "q2", "s2", "s3", "q3"):
             rows = sorted(least_rows(text), key=lambda row: (len(row), row))
             self.assertEqual(rows, whole_basis(text))
+
+
+class CertificatesTest(unittest.TestCase):
+    """What the program tells is accepted by the certificates."""
+
+    def evidence(self, text, row):
+        yard = Yard(text)
+        ways = [solve(yard, without(row, wagon)) for wagon in range(1, len(row) + 1)]
+        return closed_list(yard, row), ways
+
+    def test_ways_and_closed_lists(self):
+        for text in YARDS + LARGE + UNBOUNDED:
+            yard = Yard(text)
+            for row in rows_up_to(4):
+                way, situations = solve(yard, row), closed_list(yard, row)
+                if way is None:
+                    self.assertTrue(is_closed_list(text, row, situations))
+                    self.assertFalse(is_closed_list(text, row, situations[1:]))
+                else:
+                    self.assertTrue(is_way(text, row, way))
+                    self.assertFalse(is_way(text, row, way[:-1]) and row)
+
+    def test_ways_by_a_rule(self):
+        for text in ("s", "q", "i", "o", "s3", "(q i)", "(o q)", "[q q q]"):
+            for row in rows_up_to(5)[::3]:
+                answer = sort_by_rule(text, row)
+                if isinstance(answer, Shown):
+                    self.assertTrue(is_occurrence(row, least_rows(text)[answer.which], answer.places))
+                else:
+                    self.assertTrue(is_way(text, row, answer))
+
+    def test_least_rows(self):
+        for text in YARDS:
+            for row in whole_basis(text):
+                situations, ways = self.evidence(text, row)
+                self.assertTrue(is_least_row(text, row, situations, ways), (text, row))
+                self.assertFalse(is_least_row(text, row, situations, ways[1:]))
+        for text in ("s", "i", "o", "s4", "[q q q]", "(q o)", "([q q] q)"):
+            for row in least_rows(text):
+                self.assertTrue(is_least_row(text, row, *self.evidence(text, row)), (text, row))
+
+    def test_rows_of_the_basis_and_cores(self):
+        for text in YARDS[::3]:
+            for row in rows_with(5)[::7]:
+                wagons = core(text, row)
+                if wagons is not None:
+                    places = [place for place, wagon in enumerate(row) if wagon in wagons]
+                    pattern = pattern_of([row[place] for place in places])
+                    self.assertTrue(is_occurrence(row, pattern, places))
+                    self.assertTrue(is_least_row(text, pattern, *self.evidence(text, pattern)))
+
+    def test_first_occurrences(self):
+        for row in rows_up_to(4):
+            for pattern in rows_up_to(3):
+                places = first_occurrence(row, pattern)
+                self.assertTrue(places is None or is_occurrence(row, pattern, places))
+
+    def test_pairings(self):
+        for one in YARDS + LARGE[::3]:
+            for other in YARDS[::2] + LARGE[1::3]:
+                pairs = pairing(one, other)
+                first, second = machine_of(one), machine_of(other)
+                if pairs is None:
+                    self.assertIn(compare(one, other), ("more", "apart"))
+                    every = [(p, q) for p in range(len(first[1])) for q in range(len(second[1]))]
+                    self.assertFalse(is_relation(first, second, every))
+                else:
+                    self.assertTrue(is_relation(first, second, pairs))
+                    self.assertIn(compare(one, other), ("same", "fewer"))
+                    self.assertFalse(is_relation(first, second, pairs[1:]) and first[1])
+
+    def test_plans_and_stuck_lists(self):
+        """A shift at its beginning has the plans and the stuck lists of its yard and its row."""
+        for text in YARDS[::2] + UNBOUNDED:
+            for row in rows_up_to(4)[::3]:
+                shift = Shift(text, row)
+                plan, situations = shift.plan(), shift.stuck()
+                if plan is None:
+                    self.assertTrue(is_closed_list(text, row, situations) and is_stuck(shift, situations))
+                else:
+                    self.assertTrue(is_way(text, row, plan) and is_plan(shift, plan))
+                    for wagon in row:
+                        self.assertTrue(is_way(text, without(row, wagon), mended(shift, plan, wagon)))
 
 
 if __name__ == "__main__":

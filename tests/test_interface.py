@@ -47,6 +47,12 @@ FUNCTIONS = {
     "simple": {"blocks": "row", "is_simple": "row", "decomposition": "row", "inflation": "pattern parts",
                "simple_rows": "count"},
     "trees": {"tree_of": "row", "row_of_tree": "text"},
+    "mend": {"is_plan": "shift moves", "is_stuck": "shift situations", "mended": "shift moves wagon"},
+    "certificates": {"is_way": "text row moves", "is_closed_list": "text row situations",
+                     "is_least_row": "text row situations ways", "is_occurrence": "row pattern places",
+                     "is_relation": "one other pairs"},
+    "words": {"words_of": "line", "is_name": "word", "number_in": "word"},
+    "journal": {"attempt": "journal lines keep", "resume": "text"},
 }
 
 CLASSES = {
@@ -58,6 +64,9 @@ CLASSES = {
     "plan": {"Shift": {"__init__": "self text row", "__len__": "self", "__iter__": "self", "move": "self move",
                        "breaks": "self wagon", "is_late": "self wagon", "row": "self", "situation": "self", "plan": "self",
                        "stuck": "self"}},
+    "desk": {"Desk": {"answer": "self line", "answers": "self lines", "names": "self", "thing": "self name"}},
+    "journal": {"Journal": {"answer": "self line", "record": "self", "lines": "self", "keep": "self", "__enter__": "self",
+                            "__exit__": "self kind value trace"}},
 }
 
 ERRORS = ("YardsortError", "NotRow", "NotCode", "NotPattern", "BadNumber", "TooLarge", "Unbounded", "NotSituation",
@@ -87,6 +96,14 @@ class InterfaceTest(unittest.TestCase):
                 self.assertEqual(found.__module__, module.__name__, name)
                 for method, arguments in methods.items():
                     self.assertEqual(names_of(found.__dict__[method]), arguments, method)
+
+    def test_keep_is_passed_by_its_name(self):
+        keep = inspect.signature(importlib.import_module("yardsort.journal").attempt).parameters["keep"]
+        self.assertEqual((keep.kind, keep.default), (keep.KEYWORD_ONLY, False))
+
+    def test_desks_and_journals_begin_without_arguments(self):
+        self.assertEqual(importlib.import_module("yardsort.desk").Desk().names(), [])
+        self.assertEqual(importlib.import_module("yardsort.journal").Journal().record(), "")
 
     def test_errors(self):
         for name in ERRORS:

@@ -22,15 +22,19 @@ def _is_kept(yard, row, situation, listed, possible):
     return all([there in listed for _, there in steps])
 
 
-def first_gap(yard, row, situations):
-    """Return the index of the first fault of a list, or None if it is closed."""
-    first = first_situation(yard, row)
+def gap_from(yard, row, first, situations):
+    """Return the index of the first fault of a list that has to contain `first`, or None."""
     possible = possible_moves(yard)
     listed = {situation: True for situation in situations}
     for at, situation in enumerate(situations):
         if not _is_kept(yard, row, situation, listed, possible):
             return at
     return None if first in listed else len(situations)
+
+
+def first_gap(yard, row, situations):
+    """Return the index of the first fault of a list, or None if it is closed."""
+    return gap_from(yard, row, first_situation(yard, row), situations)
 
 
 def is_closed(yard, row, situations):
