@@ -270,6 +270,14 @@ class ClosedListTest(unittest.TestCase):
         listed = live_situations(Yard("s2"), row)
         self.assertTrue(is_closed_list("s2", row, listed))
         self.assertFalse(is_closed_list("s2", row, listed + [(3, ((3, 2, 1),), ())]))
+        # From these, no move leads on: only what is in them is wrong.
+        row = [2, 3, 4, 1]
+        listed = live_situations(Yard("s2"), row)
+        for wrong in ((3, ((2, 3, 4),), ()), (-2, ((2, 3),), ()), (-1, ((2, 3, 4),), ()), (2, ((2, 4),), ())):
+            self.assertFalse(is_closed_list("s2", row, listed + [wrong]))
+        listed = live_situations(Yard("s2"), [2, 3, 1])
+        self.assertTrue(is_closed_list("s2", [2, 3, 1], listed))
+        self.assertFalse(is_closed_list("s2", [2, 3, 1], listed + [(-1, ((2, 3),), ())]))
 
     def test_more_situations_than_the_search_meets(self):
         # In the other order, 3 2 cannot be left either: all that follows is in the list.

@@ -138,6 +138,25 @@ class LostTest(unittest.TestCase):
                 self.assertEqual(len(machine[1]), 40)
                 self.assertEqual(lost(machine), lost(base), base)
 
+    def test_machines_of_40_states_that_count(self):
+        # Most readings of these machines lead to no code; all of them would be too many to walk through.
+        for letters, steps, states, ends in ((2, (1, 2), 40, (0,)), (3, (1, 2, 3), 40, (0, 20)), (3, (0, 1, 2), 20, (1, 2)),
+                                             (4, (1, 0, 0, 0), 40, (2, 3)), (4, (0, 1, 2, 3), 10, (2,))):
+            table = tuple(tuple((state + step) % states for step in steps) for state in range(states))
+            machine = (letters, tuple(state in ends for state in range(states)), table)
+            found = lost(machine)
+            for row in rows_up_to(5) + [list(range(1, count)) for count in range(7, 44)]:
+                self.assertEqual(accepted(found, code(row)), one_too_many(machine, row), (machine, row))
+
+    def test_machines_whose_states_never_meet(self):
+        source = random.Random(8)
+        for _ in range(30):
+            letters, states = source.randint(1, 3), source.randint(1, 5)
+            orders = [source.sample(range(states), states) for _ in range(letters)]
+            table = tuple(tuple(order[state] for order in orders) for state in range(states))
+            ends = source.sample(range(states), source.randint(1, 2) if states > 2 else 1)
+            self.check((letters, tuple(state in ends for state in range(states)), table), 5)
+
     def test_many_states_in_the_result(self):
         source = random.Random(7)
         table = tuple(tuple(source.randrange(9) for _ in range(4)) for _ in range(9))

@@ -1,5 +1,6 @@
 import random
 import unittest
+from unittest import mock
 
 from oracles import first_way, removed, rows_up_to, rows_with
 from yardsort.basis import basis_machine
@@ -264,6 +265,10 @@ class YardTest(DeskTest):
         self.told("least v", "2 1", "yard v s1")
         self.told("least u", "refused")
         self.told("least v", "refused", "yard v s4")
+        # No yard that is small enough has an infinite basis, or none.
+        for rows, answer in ((None, "endless"), ([], "empty")):
+            with mock.patch("yardsort.desk.whole_basis", return_value=rows):
+                self.told("least s", answer)
         self.told("isleast s r", "no")
         self.told("isleast s e", "no")
         self.told("isleast u r", "refused")

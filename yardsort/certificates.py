@@ -257,8 +257,6 @@ def is_occurrence(row, pattern, places):
     """Return whether places are an occurrence of a pattern in a row."""
     _check_row(row)
     _check_row(pattern)
-    if len(places) != len(pattern):
-        return False
     if not all([0 <= place < len(row) for place in places]):
         return False
     if not all([place < other for place, other in zip(places, places[1:])]):

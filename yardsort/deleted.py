@@ -20,6 +20,44 @@ def _codes(letters):
     return (letters, tuple([due == 0 for due in range(letters)]), tuple(table))
 
 
+def _pairs_apart(accepting, table):
+    """Return the pairs of states that no word leads both to accepting states."""
+    sources = {}
+    waiting = []
+    pairs = [(one, other) for one in range(len(accepting)) for other in range(one + 1)]
+    for one, other in pairs:
+        if accepting[one] and accepting[other]:
+            waiting.append((one, other))
+        for ends in zip(table[one], table[other]):
+            if DEAD not in ends:
+                sources.setdefault((max(ends), min(ends)), []).append((one, other))
+    apart = {pair: True for pair in pairs}
+    while waiting:
+        pair = waiting.pop()
+        if pair in apart:
+            del apart[pair]
+            waiting.extend(sources.get(pair, []))
+    return list(apart)
+
+
+def _lesser_apart(accepting, table):
+    """Return for each state the bits of the states before it that are apart from it."""
+    bits = [0] * len(accepting)
+    for one, other in _pairs_apart(accepting, table):
+        bits[one] += 1 << other
+    return bits
+
+
+def _are_apart(bits, states):
+    """Return whether two of these states, in ascending order, are apart."""
+    seen = 0
+    for state in states:
+        if (seen & bits[state]) > 0:
+            return True
+        seen += 1 << state
+    return False
+
+
 def _first_reading(letters, states):
     """Return what is known before a code is read.
 
@@ -35,7 +73,7 @@ def _first_reading(letters, states):
     return (0, start, (start,) * letters, ())
 
 
-def _read_on(table, reading, letter):
+def _read_on(table, bits, reading, letter):
     """Return the reading behind one more letter, or None if no code with it is wanted.
 
     The letter tells at which place, of those left, the next wagon stands. In
@@ -53,7 +91,8 @@ def _read_on(table, reading, letter):
     # As many wagons as are due will be removed in their turn.
     if DEAD in removed or DEAD in left[:still_due]:
         return None
-    return (still_due, onward, left, tuple(sorted(set(removed))))
+    ends = sorted(set(removed))
+    return None if _are_apart(bits, ends) else (still_due, onward, left, tuple(ends))
 
 
 def _is_end(accepting, reading):
@@ -73,8 +112,10 @@ def lost(machine):
     letters, accepting, rows = widen(codes, machine[0] + 1)
     # The index DEAD finds a last row in which no letter leads on.
     table = rows + ((DEAD,) * letters,)
+    # Where states are apart, as in a machine that counts, most readings lead to no code.
+    bits = _lesser_apart(accepting, rows)
     first = _first_reading(letters, len(accepting))
-    readings, walks = walked(first, letters, lambda reading, letter: _read_on(table, reading, letter))
+    readings, walks = walked(first, letters, lambda reading, letter: _read_on(table, bits, reading, letter))
     flags = [_is_end(accepting, reading) for reading in readings]
     return minimized(letters, flags, walks, len(readings))
 
