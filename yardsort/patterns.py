@@ -57,7 +57,7 @@ def _ways(filling, places_by_size, size):
     for place in places_by_size:
         wagon = filling[place]
         if wagon != NOBODY:
-            ways[wagon] += ways[wagon - 1]
+            ways[wagon] = ways[wagon] + ways[wagon - 1]
     return ways[size]
 
 
